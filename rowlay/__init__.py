@@ -1,0 +1,1 @@
+"""Rowlay: webs laid in a row."""

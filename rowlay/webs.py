@@ -4,13 +4,16 @@ from rowlay.errors import BadKind, BadOrder, BadWeb
 
 MOST_PLACES = 8
 MOST_WEIGHT = 100
+KINDS = ("longest", "most", "total")
+
+
+def is_whole(value):
+    # To Python a truth is an int as well, here it is no whole number.
+    return isinstance(value, int) and not isinstance(value, bool)
 
 
 def is_within(value, least, greatest):
-    # To Python a truth is an int as well, here it is no whole number.
-    if isinstance(value, bool) or not isinstance(value, int):
-        return False
-    return least <= value <= greatest
+    return is_whole(value) and least <= value <= greatest
 
 
 def is_tie(tie, places):
@@ -59,6 +62,11 @@ def look_both(web, order):
     look_order(web[0], order)
 
 
+def look_kind(kind):
+    if kind not in KINDS:
+        raise BadKind(f"{kind!r} is none of longest, most and total")
+
+
 def spots_of(order):
     spots = {}
     for spot, place in enumerate(order):
@@ -99,10 +107,9 @@ def total(web, order):
 
 def measured(web, kind, order):
     look_both(web, order)
+    look_kind(kind)
     if kind == "longest":
         return longest(web, order)
     if kind == "most":
         return most(web, order)
-    if kind == "total":
-        return total(web, order)
-    raise BadKind(f"{kind!r} is none of longest, most and total")
+    return total(web, order)

@@ -38,6 +38,25 @@ def webs():
     return found
 
 
+def light(places, salt):
+    ties = []
+    for one, other in combinations(range(places), 2):
+        if (one + 2 * other + salt) % 3 != 0:
+            ties.append((one, other, (one * other + salt) % 3 + 1))
+    return (places, ties)
+
+
+def small_webs():
+    found = [web for web in webs() if web[0] <= 5]
+    for places in range(2, 6):
+        found += [light(places, salt) for salt in range(3)]
+    return found
+
+
+def every_order(places):
+    return [list(order) for order in permutations(range(places))]
+
+
 def orders(places):
     every = permutations(range(places))
     if places <= 4:
@@ -65,6 +84,30 @@ def plain_gaps(web, order):
 def plain_total(web, order):
     return sum(tie[2] * length for tie, length in zip(web[1], plain_lengths(web, order)))
 
+
+def plain_measured(web, kind, order):
+    if kind == "total":
+        return plain_total(web, order)
+    return max((plain_lengths if kind == "longest" else plain_gaps)(web, order) + [0])
+
+
+def plain_measures(web, kind):
+    return [(plain_measured(web, kind, order), order) for order in every_order(web[0])]
+
+
+def plain_out(web, places):
+    return sum(weight for one, other, weight in web[1] if (one in places) != (other in places))
+
+
+def number_of(places):
+    return sum(2 ** place for place in places)
+
+
+def places_of(number):
+    return [place for place in range(9) if number // 2 ** place % 2 == 1]
+
+
+KINDS = ["longest", "most", "total"]
 
 HUGE = 10 ** 15 - 1
 

@@ -71,6 +71,16 @@ def names_of(node):
     return []
 
 
+def locals_of(function):
+    found = []
+    for node in ast.walk(function):
+        if isinstance(node, ast.arg):
+            found.append(node.arg)
+        if isinstance(node, ast.Name) and isinstance(node.ctx, ast.Store):
+            found.append(node.id)
+    return found
+
+
 class Files(unittest.TestCase):
     def test_only_plain_files_lie_in_the_package(self):
         for path in PACKAGE.iterdir():
@@ -110,6 +120,48 @@ class Code(unittest.TestCase):
             if isinstance(node, ast.Constant):
                 self.assertIn(type(node.value), (int, str, bool, type(None)), where)
                 self.assertNotIn(chr(37), str(node.value), where)
+
+    def test_nothing_stands_by_itself_but_calls(self):
+        for name, tree in trees():
+            for node in ast.walk(tree):
+                if isinstance(node, ast.Expr) and node is not tree.body[0]:
+                    self.assertIsInstance(node.value, ast.Call, (name, node.lineno))
+
+    def test_expressions(self):
+        for name, node in nodes():
+            where = (name, getattr(node, "lineno", 0))
+            if isinstance(node, ast.ListComp):
+                self.assertEqual(len(node.generators), 1, where)
+                self.assertLessEqual(len(node.generators[0].ifs), 1, where)
+            if isinstance(node, ast.FormattedValue):
+                self.assertIsInstance(node.value, ast.Name, where)
+                self.assertIsNone(node.format_spec, where)
+            if isinstance(node, ast.Compare):
+                for operator, beside in zip(node.ops, node.comparators):
+                    if isinstance(operator, (ast.Is, ast.IsNot)):
+                        self.assertIn(getattr(beside, "value", "none"), (None, True, False), where)
+            if isinstance(node, ast.BinOp) and isinstance(node.op, ast.Pow):
+                self.assertIsInstance(node.right, ast.Constant, where)
+            self.assertNotIsInstance(node, ast.Set, where)
+
+    def test_locals_are_not_called_like_imports_or_classes(self):
+        for name, tree in trees():
+            taken = [node.name for node in tree.body if isinstance(node, ast.ClassDef)]
+            for node in tree.body:
+                if isinstance(node, ast.ImportFrom):
+                    taken += [drawn.name for drawn in node.names]
+            for node in ast.walk(tree):
+                if isinstance(node, ast.FunctionDef):
+                    self.assertFalse(set(locals_of(node)) & set(taken), (name, node.lineno))
+
+    def test_no_name_is_a_method_and_a_value(self):
+        methods, values = set(), set()
+        for name, node in nodes():
+            if isinstance(node, ast.ClassDef):
+                methods |= {part.name for part in node.body if isinstance(part, ast.FunctionDef)}
+            if isinstance(node, ast.Attribute) and isinstance(node.ctx, ast.Store):
+                values.add(node.attr)
+        self.assertFalse(methods & values)
 
     def test_names(self):
         for name, node in nodes():

@@ -7,7 +7,7 @@ from rowlay import webs
 from rowlay.errors import BadKind, BadOrder, BadWeb
 
 MEASURES = [webs.lengths, webs.gaps, webs.longest, webs.most, webs.total]
-KINDS = ["longest", "most", "total"]
+KINDS = samples.KINDS
 SQUARE = (4, [(0, 1, 3), (0, 3, 2), (1, 2, 5), (2, 3, 1)])
 
 
